@@ -22,6 +22,10 @@ class Begin(unittest.TestCase):
     def test_place_is_zero_again(self):
         parts = ask(go(SIZE), BEGIN, write(0, OTHER_TRAP), run(1))
         self.assertEqual(parts[-1], [2])
+        # GETA $255,0 tells the place itself.
+        see = code((0xF4, 255, 0), (0xAF, 255, 254, 64))
+        self.assertEqual(ask(write(0, see), run(2), read(64, 8))[2], [8] + octa(0))
+        self.assertEqual(ask(go(7), BEGIN, write(0, see), run(2), read(64, 8))[4], [8] + octa(0))
 
     def test_registers_are_zero_again(self):
         setup = constant(4, MASK) + constant(255, MASK)
@@ -48,7 +52,6 @@ class Begin(unittest.TestCase):
         self.assertEqual(parts[-1], [256] + expected)
 
     def test_there_are_no_locals(self):
-        # A PUSHJ from rG on pushes all locals; POP then tells how many came back, through rL.
         program = code((0xE3, 9, 1))
         see = code((0xFE, 255, 0, 20), (0xAF, 255, 254, 64))
         parts = ask(write(0, program), run(1), BEGIN, write(0, see), run(2), read(64, 8))

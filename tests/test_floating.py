@@ -173,6 +173,7 @@ class Pairs(unittest.TestCase):
             (0x14, one, zero, (plus, 2)), (0x14, one, SIGN, (minus, 2)), (0x14, zero, SIGN, (NO_NUMBER, 16)),
             (0x16, plus, one, (NO_NUMBER, 16)), (0x16, one, zero, (NO_NUMBER, 16)), (0x16, one, plus, (one, 0)),
             (0x16, SIGN, minus, (SIGN, 0)), (0x16, plus, plus, (NO_NUMBER, 16)),
+            (0x16, 0x7FEFFFFFFFFFFFFF, plus, (0x7FEFFFFFFFFFFFFF, 0)), (0x16, 1 | SIGN, minus, (1 | SIGN, 0)),
         ):
             state = worked(op, y, z)
             self.assertEqual((state.registers[3], state.specials[21]), expected, (hex(op), hex(y), hex(z)))

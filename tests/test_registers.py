@@ -169,6 +169,12 @@ class Pops(unittest.TestCase):
         for x in (4, 5, 255):
             self.assertEqual(self.locals_after(x), [10, 11, 0, 50, 51, 52])
 
+    def test_more_than_there_are_where_all_below_rg_are_local(self):
+        # $32 is global: it is none of the locals that were there before, so $1 is 0.
+        inner = [push(1), (0xF7, RG, 0, 32), (0xE3, 32, 99), (0xE3, 31, 7), (0xE3, 0, 8)]
+        state = popped(inner, 40, {0: 5}, see=(0, 1, 2, 31, 32))
+        self.assertEqual(state.registers, {0: 5, 1: 0, 2: 8, 31: 0, 32: 99})
+
     def test_one_behind_another(self):
         # rJ leads back behind the second push: the first POP goes on to the second by its YZ.
         program = [push(2), (0xE3, 0, 50), (0xE3, 1, 51), push(1), (0xE3, 0, 70), (0xF8, 1, 2), pop(2)]
