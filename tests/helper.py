@@ -5,10 +5,11 @@ from wordrunner.desk import answers
 MASK = (1 << 64) - 1
 SIZE = 1 << 20
 BEGIN = [0]
+PLACE = [5]
 
 SETUP = 0x1000
 PROGRAM = 0x2000
-DUMP = 0x3000
+MOST_CALLS = 100
 
 
 def write(place, data):
@@ -27,6 +28,19 @@ def run(steps):
     return [4, steps]
 
 
+def get(number):
+    return [6, number]
+
+
+def give(number, word):
+    """The call set."""
+    return [7, number, word]
+
+
+def special(number):
+    return [8, number]
+
+
 def parted(flat):
     """What is answered, call by call."""
     parts = []
@@ -40,6 +54,7 @@ def parted(flat):
 
 
 def ask(*calls):
+    assert len(calls) <= MOST_CALLS
     return parted(answers([number for call in calls for number in call]))
 
 
@@ -58,15 +73,6 @@ def constant(number, word):
     return [(0xE0 + (8 if k else 0) + k, number, (word >> (48 - 16 * k)) & 0xFFFF) for k in range(4)]
 
 
-def preparation(registers, specials):
-    instructions = []
-    for number, word in specials.items():
-        instructions += constant(255, word) + [(0xF6, number, 0, 255)]
-    for number, word in ({255: 0} | registers).items():
-        instructions += constant(number, word)
-    return instructions
-
-
 def octa(word):
     return list((word & MASK).to_bytes(8, "big"))
 
@@ -76,37 +82,40 @@ def octas(data):
 
 
 class State:
-    """What a program left behind: what run answered, the registers looked at, the special registers."""
+    """What a program left behind: what run answered, the place, the registers looked at, the special ones, bytes."""
 
-    def __init__(self, answer, registers, specials, memory):
+    def __init__(self, answer, place, registers, specials, memory):
         self.answer = answer
+        self.place = place
         self.registers = registers
         self.specials = specials
         self.memory = memory
 
 
-def after(program, registers=None, specials=None, memory=(), see=(0, 1, 2, 3), steps=None, at=PROGRAM, peek=(0, 0)):
-    """Sets registers, runs the program, and stores what is to be seen at 0 to 255.
+def prepared(registers, specials):
+    """Calls that set special registers, by PUT from $255, then registers."""
+    setup = []
+    for number, word in specials.items():
+        setup += constant(255, word) + [(0xF6, number, 0, 255)]
+    calls = [write(SETUP, code(*setup)), go(SETUP), run(len(setup)), give(255, 0)]
+    return calls + [give(number, word) for number, word in registers.items()]
 
-    Only $255, which is global, is used on the way, and $254, which must be 0 and stay so.
-    """
-    setup = preparation(registers or {}, specials or {})
-    seen = [(0xAF, number, 254, 8 * k) for k, number in enumerate(see)]
-    special = []
-    for k in range(32):
-        special += [(0xFE, 255, 0, k), (0xAF, 255, 254, 8 * k)]
-    calls = [write(SETUP, code(*setup)), go(SETUP), run(len(setup))]
+
+def after(program, registers=None, specials=None, memory=(), see=(0, 1, 2, 3), steps=None, at=PROGRAM, peek=(0, 0)):
+    """Sets registers, runs the program, and asks what it left."""
+    calls = prepared(registers or {}, specials or {})
     calls += [write(place, data) for place, data in memory]
-    calls += [write(at, code(*program)), go(at), run(len(program) if steps is None else steps)]
-    answer_at = len(calls) - 1
-    calls += [read(*peek)]
-    calls += [write(DUMP, code(*seen, *special)), go(DUMP), run(len(seen)), read(0, 8 * len(see))]
-    calls += [run(len(special)), read(0, 256)]
+    calls += [write(at, code(*program)), go(at)]
+    ahead = len(calls)
+    calls += [run(len(program) if steps is None else steps), PLACE, read(*peek)]
+    calls += [get(number) for number in see] + [special(number) for number in range(32)]
     parts = ask(*calls)
-    assert parts[2] == [0] and parts[answer_at + 4] == [0] and parts[answer_at + 6] == [0]
-    found = dict(zip(see, octas(parts[answer_at + 5][1:])))
-    specials_found = octas(parts[answer_at + 7][1:])
-    return State(parts[answer_at][0], found, specials_found, parts[answer_at + 1][1:])
+    assert all(part == [0] for part in parts[:ahead]), parts[:ahead]
+    words = parts[ahead + 3:]
+    assert all(part[0] == 0 and len(part) == 2 for part in words), words
+    found = {number: part[1] for number, part in zip(see, words)}
+    specials_found = [part[1] for part in words[len(see):]]
+    return State(parts[ahead][0], parts[ahead + 1][1], found, specials_found, parts[ahead + 2][1:])
 
 
 def worked(op, y, z, specials=None):
@@ -117,25 +126,16 @@ def worked(op, y, z, specials=None):
 def many_worked(instruction, cases):
     """One instruction on many cases ($1, $2, rA): for each $3 and rA behind it."""
     found = []
-    for start in range(0, len(cases), 600):
-        found += some_worked(instruction, cases[start:start + 600])
+    for start in range(0, len(cases), 12):
+        found += some_worked(instruction, cases[start:start + 12])
     return found
 
 
 def some_worked(instruction, cases):
-    data = []
-    for case in cases:
-        for word in case:
-            data += octa(word)
-    loop = [
-        (0x8F, 1, 10, 0), (0x8F, 2, 10, 8), (0x8F, 4, 10, 16), (0xF6, 21, 0, 4),
-        instruction,
-        (0xAF, 3, 11, 0), (0xFE, 4, 0, 21), (0xAF, 4, 11, 8),
-        (0x23, 10, 10, 24), (0x23, 11, 11, 16), (0x25, 12, 12, 1), (0x5B, 12, 65536 - 11),
-    ]
-    setup = [(0xE3, 10, 0x8000), (0xE2, 11, 1), (0xE3, 12, len(cases))]
-    steps = 3 + 12 * len(cases)
-    parts = ask(write(0x8000, data), write(0, code(*setup, *loop)), run(steps), read(0x10000, 16 * len(cases)))
-    assert parts[2] == [0], parts[2]
-    words = octas(parts[3][1:])
-    return list(zip(words[0::2], words[1::2]))
+    calls = [write(0, code((0xF6, 21, 0, 4), instruction))]
+    for y, z, arithmetic in cases:
+        calls += [give(1, y), give(2, z), give(4, arithmetic), go(0), run(2), PLACE, get(3), special(21)]
+    parts = ask(*calls)[1:]
+    for start in range(0, len(parts), 8):
+        assert parts[start:start + 6] == [[0]] * 5 + [[0, 8]], parts[start:start + 6]
+    return [(parts[start + 6][1], parts[start + 7][1]) for start in range(0, len(parts), 8)]

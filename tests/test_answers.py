@@ -4,7 +4,7 @@ import contextlib
 import io
 import unittest
 
-from helper import BEGIN, SIZE, code, go, octa, parted, read, run, write
+from helper import BEGIN, MASK, PLACE, SIZE, code, get, give, go, octa, parted, read, run, special, write
 from wordrunner.desk import answers
 
 
@@ -21,18 +21,22 @@ class Watched(list):
 def mixed_calls():
     """A hundred calls of all kinds."""
     calls = []
-    for k in range(14):
-        program = code((0xE3, 1, 1000 + k), (0xAF, 1, 254, 64), (0xFD, 0, 0, 0), (0, 0, 0, k))
-        calls += [BEGIN, write(512 * k, program), go(512 * k), run(2), read(64, 8), run(5), read(SIZE - 2, k % 4)]
-    return calls + [run(-1), read(0, -1)]
+    for k in range(8):
+        program = code((0x23, 1, 1, k), (0xAF, 1, 254, 64), (0xFD, 0, 0, 0), (0, 0, 0, k))
+        calls += [
+            BEGIN, write(512 * k, program), go(512 * k), give(1, 1000), run(2), PLACE, get(1), special(20), read(64, 8),
+            run(5), special(29), read(SIZE - 2, k % 4),
+        ]
+    return calls + [run(-1), get(256), give(-1, 5), special(32)]
 
 
 def mixed_answers():
     parts = []
-    for k in range(14):
+    for k in range(8):
         end = [k % 4] + [0] * (k % 4) if k % 4 < 3 else [-1]
-        parts += [[0], [0], [0], [0], [8] + octa(1000 + k), [1 if k == 0 else 2], end]
-    return parts + [[-8], [-8]]
+        parts += [[0], [0], [0], [0], [0], [0, 512 * k + 8], [0, 1000 + k], [0, 2], [8] + octa(1000 + k)]
+        parts += [[1 if k == 0 else 2], [0, k], end]
+    return parts + [[-8], [-8], [-8], [-8]]
 
 
 def flat(calls):
@@ -52,14 +56,25 @@ class Answers(unittest.TestCase):
         self.assertEqual(answers([4, 0]), [1, 0])
         self.assertEqual(answers([4, 1]), [1, 1])
         self.assertEqual(answers([4, -1]), [1, -8])
+        self.assertEqual(answers([5]), [2, 0, 0])
+        self.assertEqual(answers([6, 3]), [2, 0, 0])
+        self.assertEqual(answers([6, 256]), [1, -8])
+        self.assertEqual(answers([7, 3, 9]), [1, 0])
+        self.assertEqual(answers([7, 256, 9]), [1, -8])
+        self.assertEqual(answers([8, 19]), [2, 0, 255])
+        self.assertEqual(answers([8, 32]), [1, -8])
 
     def test_calls_one_behind_another(self):
         handed_in = [1, 8, 3, 4, 5, 6, 2, 7, 5, 3, 8, 4, 1, 0, 2, 8, 1]
         self.assertEqual(answers(handed_in), [1, 0, 6, 5, 0, 4, 5, 6, 0, 1, 0, 1, 0, 1, 0, 2, 1, 0])
+        handed_in = [7, 5, 8, 6, 5, 5, 3, 7, 5, 8, 20, 7, -7, 6, 8, -7, 6, -7, 0, 6, 5, 5]
+        self.assertEqual(answers(handed_in), [1, 0, 2, 0, 8, 2, 0, 0, 1, 0, 2, 0, 7, 2, 0, 6, 1, -8, 1, -8, 1, -8,
+                                              1, 0, 2, 0, 0, 2, 0, 0])
 
     def test_a_hundred_calls_of_all_kinds(self):
         calls = mixed_calls()
         self.assertEqual(len(calls), 100)
+        self.assertEqual({call[0] for call in calls}, set(range(9)))
         self.assertEqual(parted(answers(flat(calls))), mixed_answers())
 
     def test_bytes_that_look_like_calls(self):
@@ -84,9 +99,10 @@ class Answers(unittest.TestCase):
         calls = flat(mixed_calls())
         first = answers(calls)
         self.assertEqual(answers(calls), first)
-        answers(flat([write(0, [0xE3, 255, 0, 1, 0xFF]), run(2), go(99)]))
+        answers(flat([write(0, [0xE3, 255, 0, 1, 0xFF]), run(2), go(99), give(7, MASK), give(255, MASK)]))
         self.assertEqual(answers(calls), first)
         self.assertEqual(answers([2, 0, 4]), [5, 4, 0, 0, 0, 0])
+        self.assertEqual(answers([6, 7, 6, 255, 8, 20, 8, 19, 5]), [2, 0, 0, 2, 0, 0, 2, 0, 0, 2, 0, 255, 2, 0, 0])
 
     def test_what_is_given_back_is_the_callers(self):
         first = answers([2, 0, 4])

@@ -1,8 +1,8 @@
-"""begin, write, read, go (points 1 and 2)."""
+"""begin, write, read, go, place (points 1 and 2)."""
 
 import unittest
 
-from helper import BEGIN, MASK, SIZE, ask, code, constant, go, octa, read, run, write
+from helper import BEGIN, MASK, PLACE, SIZE, ask, code, constant, give, go, octa, read, run, special, write
 
 TRAP = [0, 0, 0, 0]
 OTHER_TRAP = [0, 1, 2, 3]
@@ -154,6 +154,70 @@ class Go(unittest.TestCase):
         for place in (SIZE, SIZE + 1, 1 << 40, MASK):
             self.assertEqual(ask(go(place), run(0), run(1), run(1), go(0), run(1)), [[0], [0], [-1], [-1], [0], [1]])
         self.assertEqual(ask(go(SIZE - 1), run(1), run(1)), [[0], [1], [-1]])
+
+
+class Place(unittest.TestCase):
+    FAULTS = (
+        (-1, (0x8D, 1, 255, 0)), (-2, (0xFF, 0, 0, 0)), (-2, (0x05, 1, 5, 1)), (-3, (0xFE, 1, 0, 32)),
+        (-3, (0xF7, 8, 0, 0)), (-4, (0xF8, 0, 0, 0)),
+    )
+
+    def test_at_the_beginning(self):
+        self.assertEqual(ask(PLACE), [[0, 0]])
+        self.assertEqual(ask(go(44), BEGIN, PLACE), [[0], [0], [0, 0]])
+        self.assertEqual(ask(run(3), BEGIN, PLACE), [[1], [0], [0, 0]])
+
+    def test_behind_go(self):
+        for place in (0, 1, 2, 3, 4, 400, 401, 402, 403, SIZE - 1, SIZE, SIZE + 3, 1 << 63, MASK):
+            self.assertEqual(ask(go(place), PLACE, PLACE), [[0], [0, place], [0, place]])
+
+    def test_behind_a_run(self):
+        for start in (0, 400):
+            calls = [write(start, NOTHING * 5 + TRAP), go(start)]
+            for steps in range(6):
+                self.assertEqual(ask(*calls, run(steps), PLACE)[2:], [[0], [0, start + 4 * steps]])
+            self.assertEqual(ask(*calls, run(2), run(0), run(1), PLACE)[4:], [[0], [0, start + 12]])
+
+    def test_behind_no_steps_where_no_instruction_can_be(self):
+        for place in (3, SIZE, MASK):
+            self.assertEqual(ask(go(place), run(0), PLACE), [[0], [0], [0, place]])
+
+    def test_behind_a_run_from_no_multiple_of_4(self):
+        for place in (401, 402, 403):
+            calls = [write(400, NOTHING * 2 + TRAP), go(place)]
+            self.assertEqual(ask(*calls, run(2), PLACE)[2:], [[0], [0, place + 8]])
+            self.assertEqual(ask(*calls, run(3), PLACE)[2:], [[1], [0, place + 12]])
+
+    def test_behind_a_trap(self):
+        for trap, answer in ((TRAP, 1), (OTHER_TRAP, 2)):
+            parts = ask(write(400, NOTHING + trap), go(400), run(9), PLACE, run(1), PLACE)
+            self.assertEqual(parts[2:], [[answer], [0, 408], [1], [0, 412]])
+        self.assertEqual(ask(go(SIZE - 4), run(5), PLACE), [[0], [1], [0, SIZE]])
+
+    def test_behind_a_fault(self):
+        for fault, bad in self.FAULTS:
+            calls = [give(255, SIZE), write(400, NOTHING * 2 + code(bad) + TRAP), go(400)]
+            self.assertEqual(ask(*calls, run(9), PLACE, run(1), PLACE)[3:], [[fault], [0, 408]] * 2)
+            self.assertEqual(ask(*calls, run(3), PLACE)[3:], [[fault], [0, 408]])
+            self.assertEqual(ask(*calls, run(2), PLACE)[3:], [[0], [0, 408]])
+
+    def test_behind_too_much_pushed(self):
+        parts = ask(write(400, NOTHING + code((0xF2, 0, 0))), go(400), run(65537), PLACE, run(1), PLACE, special(4))
+        self.assertEqual(parts[2:], [[0], [0, 404], [-5], [0, 404], [0, 408]])
+
+    def test_behind_an_instruction_past_memory(self):
+        parts = ask(write(SIZE - 4, NOTHING), go(SIZE - 4), run(2), PLACE, run(1), PLACE)
+        self.assertEqual(parts[2:], [[-1], [0, SIZE], [-1], [0, SIZE]])
+        for place in (SIZE + 1, MASK):
+            self.assertEqual(ask(go(place), run(1), PLACE), [[0], [-1], [0, place]])
+
+    def test_behind_refusals(self):
+        parts = ask(go(44), run(-1), PLACE, read(0, -1), PLACE, write(SIZE, [1]), PLACE)
+        self.assertEqual(parts[1:], [[-8], [0, 44], [-8], [0, 44], [-1], [0, 44]])
+
+    def test_other_calls_leave_it(self):
+        parts = ask(go(43), write(0, [1]), read(0, 1), give(3, 9), special(3), PLACE)
+        self.assertEqual(parts[-1], [0, 43])
 
 
 if __name__ == "__main__":

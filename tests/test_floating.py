@@ -247,6 +247,11 @@ class Alone(Rounded):
         )
     )
 
+    # Their roots lie less than 2^-100 above a number, and above the middle of two.
+    JUST_ABOVE = (
+        0x40073C5B0360FBFF, 0x3FF73419A35AB8B3, 0x3FFADD0BB2567C3C, 0x3FFD407BB3641DA5, 0x4005B95344972FE2,
+    )
+
     def test_fix(self):
         def reckon(word, mode):
             value = whole(exact(word), mode)
@@ -285,7 +290,7 @@ class Alone(Rounded):
             above = math.nextafter(below, math.inf)
             return (as_word({NEAREST: near, TOWARDS_0: below, UP: above, DOWN: below}[mode]), 1)
         words = self.WORDS + tuple(word & ~SIGN for word in mixed_words(300, 3) if is_finite(word))
-        self.check(0x15, words, reckon)
+        self.check(0x15, words + self.JUST_ABOVE, reckon)
         self.check(0x15, (INFINITY,), lambda word, mode: (word, 0))
         self.check(0x15, (INFINITY | SIGN,), lambda word, mode: (NO_NUMBER, 16))
 

@@ -11,17 +11,17 @@ QUESTIONS = (
 VALUES = (0, 1, 2, 3, (1 << 63) - 1, -(1 << 63), 1 - (1 << 63), -3, -2, -1)
 
 
-def landed(instruction, at, registers=None, specials=None):
-    """Where an instruction leads: a TRAP with its own number stands at each place around it."""
-    first = max(at - 4 * 100, 0x4000)
+def landed(instruction, at, registers=None):
+    """The place behind an instruction; what is run next stands there."""
+    first = at - 4 * 100
     field = []
     for number in range(200):
         field += [0, 0, 1, number]
-    state = after(
-        [instruction], registers, specials, memory=[(first, field)], at=at, steps=2,
-    )
-    assert state.answer == 2
-    return first + 4 * (state.specials[29] & 255)
+    state = after([instruction], registers, at=at)
+    beyond = after([instruction], registers, memory=[(first, field)], at=at, steps=2)
+    assert (state.answer, beyond.answer, beyond.place) == (0, 2, state.place + 4)
+    assert first + 4 * (beyond.specials[29] & 255) == state.place - state.place % 4
+    return state.place
 
 
 class Branches(unittest.TestCase):
@@ -81,7 +81,7 @@ class Jumps(unittest.TestCase):
         self.assertEqual(landed((0x9E, 3, 1, 2), self.AT, {1: self.AT, 2: 0x10}), self.AT + 16)
         self.assertEqual(landed((0x9F, 3, 1, 12), self.AT, {1: self.AT}), self.AT + 12)
         self.assertEqual(landed((0x9F, 1, 1, 12), self.AT, {1: self.AT}), self.AT + 12)
-        self.assertEqual(landed((0x9F, 1, 1, 15), self.AT, {1: self.AT}), self.AT + 12)
+        self.assertEqual(landed((0x9F, 1, 1, 15), self.AT, {1: self.AT}), self.AT + 15)
 
     def test_go_past_memory(self):
         parts = ask(write(0, code((0xE0, 1, 1), (0x9F, 1, 1, 0))), run(2), run(1))

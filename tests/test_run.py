@@ -72,15 +72,17 @@ class Faults(unittest.TestCase):
     MISSING = (0x11, 0x12, 0x13, 0x98, 0x99, 0xF9, 0xFA, 0xFB, 0xFF)
 
     def fault_leaves_all(self, fault, program, registers=None, specials=None):
-        """The fault comes, and all registers are as before."""
+        """The fault comes, and the machine is as before."""
         registers = {1: 5, 2: MASK, 3: 7} | (registers or {})
         specials = {3: 11, 4: 22, 5: 33, 6: 44, 21: 0x20011, 23: 55} | (specials or {})
         see = (0, 1, 2, 3, 255)
-        before = after([], registers, specials, see=see)
-        state = after(program, registers, specials, see=see)
-        self.assertEqual(state.answer, fault)
+        memory = [(0, list(range(64)))]
+        before = after([], registers, specials, memory, see=see, peek=(0, 64))
+        state = after(program, registers, specials, memory, see=see, peek=(0, 64))
+        self.assertEqual((state.answer, state.place), (fault, before.place))
         self.assertEqual(state.registers, before.registers)
         self.assertEqual(state.specials, before.specials)
+        self.assertEqual(state.memory, before.memory)
 
     def test_no_such_instruction(self):
         for op in self.MISSING:

@@ -134,6 +134,10 @@ class Marks(unittest.TestCase):
         self.assertEqual(state.specials[21], 0x200C0)
         state = worked(0x20, 1, 1, {21: 0x40})
         self.assertEqual(state.specials[21], 0x40)
+        state = worked(0x20, GREATEST, 1, {21: 0x40})
+        self.assertEqual(state.specials[21], 0x40)
+        state = worked(0x1C, 1, 0, {21: 0x80})
+        self.assertEqual(state.specials[21], 0x80)
 
     def test_the_result_may_be_an_operand(self):
         self.assertEqual(after([(0x20, 1, 1, 2)], {1: 5, 2: 6}).registers, {0: 0, 1: 11, 2: 6, 3: 0})

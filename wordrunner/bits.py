@@ -4,6 +4,9 @@ from wordrunner.machine import RM
 from wordrunner.operands import even_op, first_value, second_value, x_of
 from wordrunner.words import MASK
 
+# The lowest bit of each byte.
+LOW_BITS = 0x0101010101010101
+
 
 def bit_or(machine, y, z):
     return y | z
@@ -78,24 +81,22 @@ def sadd(machine, y, z):
     return count
 
 
-def chosen_bytes(y, choice):
-    """Those of y's bytes whose bit is set in the choice's low byte: the high byte has the high bit."""
-    return [(y >> 8 * k) & 255 for k in range(8) if (choice >> k) & 1]
+def spread(y, z, k):
+    """Byte k of y, counted from the low end, in each byte whose bit k is set in z."""
+    return ((z >> k) & LOW_BITS) * ((y >> 8 * k) & 255)
 
 
 def mor(machine, y, z):
     result = 0
-    for shift in range(0, 64, 8):
-        for part in chosen_bytes(y, z >> shift):
-            result |= part << shift
+    for k in range(8):
+        result |= spread(y, z, k)
     return result
 
 
 def mxor(machine, y, z):
     result = 0
-    for shift in range(0, 64, 8):
-        for part in chosen_bytes(y, z >> shift):
-            result ^= part << shift
+    for k in range(8):
+        result ^= spread(y, z, k)
     return result
 
 

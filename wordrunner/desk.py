@@ -5,9 +5,11 @@ from wordrunner.runner import run
 
 WRITE = 1
 MOST_BYTES = 65536
+HOW_MANY_PLAIN = 256
+HOW_MANY_SPECIAL = 32
 
 # How many numbers each call has, by its own number; write has its bytes behind these.
-LENGTHS = (1, 3, 3, 2, 2)
+LENGTHS = (1, 3, 3, 2, 2, 1, 2, 3, 2)
 
 
 def refusal(place, count):
@@ -51,7 +53,38 @@ def answer_run(machine, call):
     return [run(machine, call[1])]
 
 
-DUTIES = (answer_begin, answer_write, answer_read, answer_go, answer_run)
+def answer_place(machine, call):
+    return [0, machine.place]
+
+
+def is_there(number, count):
+    """Whether so many registers have one of this number."""
+    return 0 <= number < count
+
+
+def answer_get(machine, call):
+    if not is_there(call[1], HOW_MANY_PLAIN):
+        return [-8]
+    return [0, machine.value_of(call[1])]
+
+
+def answer_set(machine, call):
+    if not is_there(call[1], HOW_MANY_PLAIN):
+        return [-8]
+    machine.give(call[1], call[2])
+    return [0]
+
+
+def answer_special(machine, call):
+    if not is_there(call[1], HOW_MANY_SPECIAL):
+        return [-8]
+    return [0, machine.special_of(call[1])]
+
+
+DUTIES = (
+    answer_begin, answer_write, answer_read, answer_go, answer_run,
+    answer_place, answer_get, answer_set, answer_special,
+)
 
 
 def call_length(calls, start):
